@@ -1,0 +1,1 @@
+"""Leastplaces: where the least entries of windows stand."""

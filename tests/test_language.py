@@ -1,0 +1,82 @@
+"""Tests that the files of the package keep to the plain rules of the language.
+
+They see the rules on files, characters, sizes, imports and names; the others
+are kept by reading.
+"""
+
+import ast
+import pathlib
+import re
+import unittest
+
+FOLDER = pathlib.Path(__file__).resolve().parent.parent / "leastplaces"
+
+BARRED = (
+    "type typing typing_extensions enum Enum IntEnum StrEnum Flag IntFlag Generic Protocol ABC "
+    "ABCMeta namedtuple NamedTuple TypedDict TYPE_CHECKING abstractmethod"
+).split()
+BARRED_PARTS = ("dataclass", "overload", "contextmanager")
+
+
+def sources():
+    return [(path.name, path.read_text("utf-8")) for path in sorted(FOLDER.glob("*.py"))]
+
+
+class LanguageTest(unittest.TestCase):
+
+    def test_the_folder_holds_only_python_files(self):
+        for path in FOLDER.iterdir():
+            if path.name != "__pycache__":
+                self.assertRegex(path.name, r"\A[a-z0-9_]+\.py\Z")
+        self.assertTrue((FOLDER / "__init__.py").is_file())
+
+    def test_characters(self):
+        for name, text in sources():
+            self.assertRegex(text, r"\A[\n -~]*\Z", name)
+
+    def test_sizes(self):
+        for name, text in sources():
+            lines = text.splitlines()
+            self.assertLessEqual(len(lines), 400, name)
+            self.assertLessEqual(max(len(line) for line in lines), 120, name)
+            for node in ast.walk(ast.parse(text)):
+                if isinstance(node, ast.FunctionDef):
+                    self.assertLessEqual(node.end_lineno - node.lineno + 1, 40, (name, node.name))
+
+    def test_words(self):
+        for name, text in sources():
+            words = re.findall(r"\w+", text)
+            for word in BARRED:
+                self.assertNotIn(word, words, name)
+            for part in BARRED_PARTS:
+                self.assertNotIn(part, text, name)
+
+    def test_imports(self):
+        names = [name for name, _ in sources()]
+        for name, text in sources():
+            for node in ast.walk(ast.parse(text)):
+                self.assertNotIsInstance(node, ast.Import, name)
+                if isinstance(node, ast.ImportFrom):
+                    self.assertEqual(node.level, 0, name)
+                    package, _, module = node.module.partition(".")
+                    self.assertEqual(package, "leastplaces", name)
+                    self.assertIn(module + ".py", names, name)
+
+    def test_names_do_not_begin_with_an_underscore(self):
+        for name, text in sources():
+            for node in ast.walk(ast.parse(text)):
+                word = getattr(node, "id", None) or getattr(node, "attr", None) or ""
+                self.assertFalse(word.startswith("_") and not word.startswith("__"), (name, word))
+
+    def test_no_statement_that_is_not_allowed(self):
+        refused = (ast.Global, ast.AsyncFunctionDef, ast.Await, ast.Div)
+        for name, text in sources():
+            for node in ast.walk(ast.parse(text)):
+                self.assertNotIsInstance(node, refused, name)
+                if isinstance(node, ast.Constant):
+                    self.assertNotIsInstance(node.value, (float, complex), name)
+                    self.assertFalse(isinstance(node.value, str) and "%" in node.value, name)
+
+
+if __name__ == "__main__":
+    unittest.main()
