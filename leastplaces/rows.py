@@ -24,6 +24,12 @@ def is_window(many, first, last):
     return is_place(many, first) and is_place(many, last) and first <= last
 
 
+def check_window(many, first, last):
+    """Raise the error of two values that give no window."""
+    if not is_window(many, first, last):
+        raise NoWindow((first, last))
+
+
 def row_error(value):
     """None for a row, otherwise what is wrong first and where."""
     if not isinstance(value, tuple) or not 1 <= len(value) <= MAX_PLACES:
@@ -41,8 +47,7 @@ def is_row(value):
 
 def least_place(row, first, last):
     """The lowest place of the window with its least entry."""
-    if not is_window(len(row), first, last):
-        raise NoWindow((first, last))
+    check_window(len(row), first, last)
     least = first
     for place in range(first + 1, last + 1):
         # Only a smaller entry counts, so the first of equal ones stays.

@@ -5,6 +5,7 @@ are kept by reading.
 """
 
 import ast
+import builtins
 import pathlib
 import re
 import unittest
@@ -16,6 +17,14 @@ BARRED = (
     "ABCMeta namedtuple NamedTuple TypedDict TYPE_CHECKING abstractmethod"
 ).split()
 BARRED_PARTS = ("dataclass", "overload", "contextmanager")
+
+# The builtins of rule L8, without chr, which rule L27 removes.
+BUILTINS = (
+    "len range enumerate zip min max sum abs sorted reversed int str bool bytes list tuple dict set "
+    "frozenset isinstance ord repr any all divmod Exception ValueError TypeError KeyError IndexError "
+    "LookupError ZeroDivisionError ArithmeticError OverflowError RuntimeError NotImplementedError "
+    "AttributeError StopIteration NotImplemented iter next super property staticmethod classmethod"
+).split()
 
 
 def sources():
@@ -67,6 +76,34 @@ class LanguageTest(unittest.TestCase):
             for node in ast.walk(ast.parse(text)):
                 word = getattr(node, "id", None) or getattr(node, "attr", None) or ""
                 self.assertFalse(word.startswith("_") and not word.startswith("__"), (name, word))
+
+    def test_builtins(self):
+        for name, text in sources():
+            for node in ast.walk(ast.parse(text)):
+                if isinstance(node, ast.Name) and hasattr(builtins, node.id):
+                    self.assertIn(node.id, BUILTINS, name)
+                    self.assertIsInstance(node.ctx, ast.Load, (name, node.id))
+
+    def test_calls_of_generators_are_iterated_at_once(self):
+        takers = "list tuple dict sorted sum min max any all enumerate zip".split()
+        trees = [(name, ast.parse(text)) for name, text in sources()]
+        makers = {
+            node.name for _, tree in trees for node in ast.walk(tree)
+            if isinstance(node, ast.FunctionDef)
+            and any(isinstance(part, (ast.Yield, ast.YieldFrom)) for part in ast.walk(node))}
+        self.assertIn("each_shape", makers)
+        for name, tree in trees:
+            iterated = set()
+            for node in ast.walk(tree):
+                if isinstance(node, (ast.For, ast.comprehension)):
+                    iterated.add(id(getattr(node.iter, "func", None)))
+                elif isinstance(node, ast.YieldFrom):
+                    iterated.add(id(getattr(node.value, "func", None)))
+                elif isinstance(node, ast.Call) and getattr(node.func, "id", None) in takers:
+                    iterated.update(id(getattr(part, "func", None)) for part in node.args)
+            for node in ast.walk(tree):
+                if isinstance(node, ast.Name) and node.id in makers:
+                    self.assertIn(id(node), iterated, (name, node.id))
 
     def test_no_statement_that_is_not_allowed(self):
         refused = (ast.Global, ast.AsyncFunctionDef, ast.Await, ast.Div)

@@ -5,9 +5,9 @@ import unittest
 
 from leastplaces.errors import NoRows, NotAlike, NoWindow
 from leastplaces.rows import claims_of, is_row, least_place, row_error
-from samples import NOT_INTEGERS, changes
+from samples import (
+    NOT_INTEGERS, NOT_TUPLES, TOP, changes, expected_place, small_rows, windows)
 
-TOP = 10 ** 9
 LONG = (5, 3, 8, 3, 9, 1, 1, 4, -2, 7, -2, 0)
 
 ROWS = (
@@ -15,32 +15,14 @@ ROWS = (
     (TOP, -TOP), (-TOP, TOP, -TOP), tuple(range(12)), (4,) * 12, LONG,
 )
 
-NOT_TUPLES = (
-    None, True, False, 0, 1, -1, 10 ** 39, "", "0", "012", [], [0], [0, 1], [[0]], {},
-    {"0": 0}, {"a": (0, 1)},
-)
-
-
-def expected_place(row, first, last):
-    window = row[first:last + 1]
-    return first + window.index(min(window))
-
-
-def windows(row):
-    return [(first, last) for first in range(len(row)) for last in range(first, len(row))]
-
 
 def expected_claims(rows):
     found = []
-    for first, last in windows(rows[0]):
+    for first, last in windows(len(rows[0])):
         places = {expected_place(row, first, last) for row in rows}
         if first < last and len(places) == 1:
             found.append((first, last, places.pop()))
     return tuple(sorted(found))
-
-
-def small_rows(many, entries=3):
-    return list(itertools.product(range(entries), repeat=many))
 
 
 class RowErrorTest(unittest.TestCase):
@@ -137,17 +119,17 @@ class LeastPlaceTest(unittest.TestCase):
 
     def test_all_windows(self):
         for row in ROWS:
-            for first, last in windows(row):
+            for first, last in windows(len(row)):
                 self.check_window(row, first, last)
 
     def test_all_windows_of_small_rows(self):
         for many in range(1, 6):
             for row in small_rows(many):
-                for first, last in windows(row):
+                for first, last in windows(len(row)):
                     self.check_window(row, first, last)
 
     def test_first_of_equal_entries(self):
-        for first, last in windows((4,) * 12):
+        for first, last in windows(12):
             self.assertEqual(least_place((4,) * 12, first, last), first)
         self.assertEqual(least_place((2, 0, 1, 0, 0), 0, 4), 1)
         self.assertEqual(least_place((2, 0, 1, 0, 0), 2, 4), 3)
