@@ -125,3 +125,60 @@ def answer_of(code, seconds=60):
         [sys.executable, "-c", code], env={**os.environ, "PYTHONPATH": str(ROOT)},
         capture_output=True, text=True, timeout=seconds, check=True)
     return done.stdout.strip()
+
+
+def steady(test, call, *values):
+    """The result of a call that must change nothing and tell the same twice."""
+    before = repr(values)
+    result = call(*values)
+    test.assertEqual(repr(values), before)
+    again = call(*values)
+    test.assertEqual((again, type(again)), (result, type(result)))
+    return result
+
+
+def refused(test, kind, call, *values):
+    """The error of a call that must raise it twice and change nothing."""
+    before = repr(values)
+    for _ in range(2):
+        with test.assertRaises(kind) as caught:
+            call(*values)
+        test.assertIs(type(caught.exception), kind)
+    test.assertEqual(repr(values), before)
+    return caught.exception
+
+
+def all_claims(many):
+    """All claims for rows with so many places."""
+    return [(first, last, place) for first, last in windows(many) for place in range(first, last + 1)]
+
+
+def holds_for(row, claim):
+    first, last, place = claim
+    return expected_place(row, first, last) == place
+
+
+def fulfils(row, claims):
+    return all(holds_for(row, claim) for claim in claims)
+
+
+def claims_about(row, many):
+    """So many claims that hold for a row, about windows of all sizes, some of them equal."""
+    found = windows(len(row))
+    picked = [found[(index * 29) % len(found)] for index in range(many)]
+    return tuple((first, last, expected_place(row, first, last)) for first, last in picked)
+
+
+def mixed_claims(many, size, by):
+    """So many claims for rows with size places that do not come from a row."""
+    found = all_claims(size)
+    return tuple(found[(index * index * by + 7 * index + by) % len(found)] for index in range(many))
+
+
+# Values that are no claims for rows with 3 places, though many of them look like one.
+NOT_CLAIMS = (
+    (), (0,), (0, 2), (0, 2, 1, 1), [0, 2, 1], "021", (0, 2, -1), (0, 2, 3), (-1, 2, 1), (0, 3, 1),
+    (1, 2, 0), (0, 1, 2), (2, 0, 1), (2, 1, 1), (3, 3, 3), (-1, -1, -1), (False, 2, 1), (0, True, 1),
+    (0, 2, True), (0, 2, False), (True, True, True), (0, 2, None), (None, 2, 1), (0, "2", 1),
+    (0, [2], 1), (0, (2,), 1), ((0, 2, 1),), (0, 10 ** 39, 1), (0, 2, -10 ** 39), {"a": (0, 2, 1)},
+)

@@ -1,7 +1,7 @@
 """Tests that the files of the package keep to the plain rules of the language.
 
-They see the rules on files, characters, sizes, imports and names; the others
-are kept by reading.
+They see the rules on files, characters, sizes, imports, names, errors, and what
+is given to builtins; the others are kept by reading.
 """
 
 import ast
@@ -104,6 +104,70 @@ class LanguageTest(unittest.TestCase):
             for node in ast.walk(tree):
                 if isinstance(node, ast.Name) and node.id in makers:
                     self.assertIn(id(node), iterated, (name, node.id))
+
+    def test_no_local_name_hides_an_import_a_class_or_a_builtin(self):
+        for name, text in sources():
+            tree = ast.parse(text)
+            taken = {
+                alias.asname or alias.name for node in ast.walk(tree)
+                if isinstance(node, ast.ImportFrom) for alias in node.names}
+            taken |= {node.name for node in ast.walk(tree) if isinstance(node, ast.ClassDef)}
+            taken |= set(dir(builtins))
+            for node in ast.walk(tree):
+                if isinstance(node, ast.Name) and isinstance(node.ctx, ast.Store):
+                    self.assertNotIn(node.id, taken, (name, node.lineno))
+                if isinstance(node, ast.arg):
+                    self.assertNotIn(node.arg, taken, (name, node.lineno))
+
+    def test_each_name_is_bound_once_at_module_level(self):
+        for name, text in sources():
+            bound = []
+            for node in ast.parse(text).body:
+                if isinstance(node, ast.ImportFrom):
+                    bound += [alias.asname or alias.name for alias in node.names]
+                elif isinstance(node, (ast.FunctionDef, ast.ClassDef)):
+                    bound.append(node.name)
+                elif isinstance(node, ast.Assign):
+                    bound += [target.id for target in node.targets]
+                else:
+                    self.assertIsInstance(node, ast.Expr, name)
+            self.assertEqual(len(bound), len(set(bound)), name)
+
+    def test_no_name_is_a_method_and_an_attribute(self):
+        methods, attributes = set(), set()
+        for _, text in sources():
+            for node in ast.walk(ast.parse(text)):
+                if isinstance(node, ast.ClassDef):
+                    methods |= {part.name for part in node.body if isinstance(part, ast.FunctionDef)}
+                if isinstance(node, ast.Attribute) and isinstance(node.ctx, ast.Store):
+                    attributes.add(node.attr)
+        # A property with a setter is assigned like an attribute.
+        self.assertLessEqual(methods & attributes, {"window"})
+
+    def test_builtins_that_take_a_list_get_no_generator(self):
+        takers = "sorted sum min max any all".split()
+        for name, text in sources():
+            for node in ast.walk(ast.parse(text)):
+                if isinstance(node, ast.Call) and getattr(node.func, "id", None) in takers:
+                    for part in node.args:
+                        self.assertNotIsInstance(part, ast.GeneratorExp, (name, node.lineno))
+
+    def test_is_stands_beside_plain_values_only(self):
+        for name, text in sources():
+            for node in ast.walk(ast.parse(text)):
+                if isinstance(node, ast.Compare) and isinstance(node.ops[0], (ast.Is, ast.IsNot)):
+                    value = getattr(node.comparators[0], "value", "other")
+                    self.assertTrue(value is None or value is True or value is False, name)
+
+    def test_only_own_errors_are_caught(self):
+        own = {
+            node.name for name, text in sources() if name == "errors.py"
+            for node in ast.walk(ast.parse(text)) if isinstance(node, ast.ClassDef)}
+        for name, text in sources():
+            for node in ast.walk(ast.parse(text)):
+                if isinstance(node, ast.ExceptHandler):
+                    kinds = node.type.elts if isinstance(node.type, ast.Tuple) else [node.type]
+                    self.assertLessEqual({kind.id for kind in kinds}, own, (name, node.lineno))
 
     def test_no_statement_that_is_not_allowed(self):
         refused = (ast.Global, ast.AsyncFunctionDef, ast.Await, ast.Div)
