@@ -3,7 +3,7 @@
 from leastplaces.claims import all_gaps, contradict, fulfil
 from leastplaces.errors import BadWish, NoProperty
 from leastplaces.joins import rises
-from leastplaces.rows import check_window, is_whole, least_place
+from leastplaces.rows import check_window, is_whole
 from leastplaces.shapes import distances_at, shape_of
 
 PROPERTIES = ("distance", "fall", "rise", "root")
@@ -117,13 +117,13 @@ def check_wishes(wanted):
 def properties_of(row):
     """For each property what it is at each place of the row."""
     shape = shape_of(row)
-    found = rises(shape)
-    root = least_place(row, 0, len(row) - 1)
+    low = [place in rises(shape) for place in range(len(row))]
     return {
         "distance": shape,
         "fall": [distance == 0 for distance in shape],
-        "rise": [place in found for place in range(len(row))],
-        "root": [place == root for place in range(len(row))],
+        "rise": low,
+        # The root is less than all entries before it and at most each later one.
+        "root": [shape[place] == 0 and low[place] for place in range(len(row))],
     }
 
 

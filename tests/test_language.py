@@ -169,6 +169,41 @@ class LanguageTest(unittest.TestCase):
                     kinds = node.type.elts if isinstance(node.type, ast.Tuple) else [node.type]
                     self.assertLessEqual({kind.id for kind in kinds}, own, (name, node.lineno))
 
+    def test_properties_and_what_they_call_change_nothing(self):
+        functions = {}
+        readers = []
+        for _, text in sources():
+            for node in ast.walk(ast.parse(text)):
+                if isinstance(node, ast.FunctionDef):
+                    functions[node.name] = node
+                    told = [getattr(part, "id", None) for part in node.decorator_list]
+                    if "property" in told or node.name in ("__eq__", "__str__", "__len__"):
+                        readers.append(node)
+        self.assertGreater(len(readers), 8)
+        seen = []
+        while readers:
+            reader = readers.pop()
+            seen.append(reader)
+            for node in ast.walk(reader):
+                if isinstance(node, (ast.Attribute, ast.Subscript)):
+                    self.assertIsInstance(node.ctx, ast.Load, reader.name)
+                self.assertNotIsInstance(node, (ast.AugAssign, ast.Delete, ast.Raise), reader.name)
+                if isinstance(node, ast.Call):
+                    # No method is called, so nothing that is held is changed by one.
+                    self.assertIsInstance(node.func, ast.Name, reader.name)
+                    called = functions.get(node.func.id)
+                    if called is not None and called not in seen:
+                        readers.append(called)
+
+    def test_finally_only_assigns(self):
+        for name, text in sources():
+            for node in ast.walk(ast.parse(text)):
+                for row in getattr(node, "finalbody", []):
+                    for part in ast.walk(row):
+                        self.assertNotIsInstance(part, (ast.Call, ast.Subscript, ast.Return), name)
+                        if isinstance(part, ast.If):
+                            self.assertEqual(ast.unparse(part.test).split(" ", 1)[1], "is None", name)
+
     def test_no_statement_that_is_not_allowed(self):
         refused = (ast.Global, ast.AsyncFunctionDef, ast.Await, ast.Div)
         for name, text in sources():
